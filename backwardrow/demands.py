@@ -1,7 +1,8 @@
 """What functions ask of their parameters, with the errors that the document names."""
 
 from backwardrow.checks import is_within, is_word
-from backwardrow.errors import BadNumber, BadWord
+from backwardrow.errors import BadNumber, BadRow, BadWord
+from backwardrow.rows import Row
 
 
 def demand_number(value, least, most, part):
@@ -14,3 +15,9 @@ def demand_word(value, letters, part):
     """Raise BadWord for what is no word over so many letters."""
     if not is_word(value, letters):
         raise BadWord(part)
+
+
+def demand_row(value, part):
+    """Raise BadRow for what is no row."""
+    if not isinstance(value, Row):
+        raise BadRow(part)

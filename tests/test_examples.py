@@ -2,7 +2,7 @@
 
 import unittest
 
-from backwardrow import checks, papers, words
+from backwardrow import checks, papers, rows, runs, slants, tables, words
 from helpers import examples_of, run_example
 
 CHECKS = """
@@ -27,7 +27,54 @@ raises BadText(0, 1)
 raises TooMany('words', 4096)
 """
 
-SECTIONS = (("checks", checks, CHECKS), ("papers", papers, PAPERS), ("words", words, WORDS))
+TABLES = """
+>>> some = Table(2, 2, 2, [((None, 0, 1), 1), ((1, 0, 1), 1), ((0, 0, 1), 1)], [1])
+>>> last = Table(1, 2, 3, {(1, 0): 1, (1, 1): 2, (None, 0): 2}, (2, 1))
+>>> [some.rules, last.rules, last.yes, last.worths]
+[(((None, 0, 1), 1), ((0, 0, 1), 1), ((1, 0, 1), 1)), (((None, 0), 2), ((1, 0), 1), ((1, 1), 2)), (1, 2), 3]
+>>> str(last).split("\\n")
+['ways 1 letters 2 worths 3', 'yes 1 2', '- 0 > 2', '1 0 > 1', '1 1 > 2']
+>>> [Table.read(str(some)) == some, some.begin(1), some.next(0, 0, 1), some.next(0, 1, None), last.next(1, 1, 9), some.says(1), some.says(0)]
+[True, 1, 1, 1, 2, True, False]
+>>> Table(2, 2, 2, {(0, 0): 1}, [])
+raises BadTable('rules')
+>>> Table.read("ways 1 letters 2 worths 3\\nyes 1 1")
+raises BadText(1, 2)
+"""
+
+RUNS = """
+>>> [strip(some, [0, 0, 1], 2), strip(last, (0, 1, 0), 3)]
+[((0, 0, 1), (0, 1, 1), (1, 1, 1)), ((0, 1, 0), (2, 1, 1), (2, 1, 2), (2, 1, 2))]
+>>> [seat(some, 3), due_tick(some, 3), seat(last, 3), due_tick(last, 3), worth_at(last, [0, 1, 0], 2, 1)]
+[0, 2, 2, 5, 1]
+>>> [told(some, [0, 0, 1]), told(some, [0, 0, 0]), said(some, [0, 0, 1], 1), told_words(some, 2), told_words(last, 1)]
+[True, False, False, ((0, 1), (1, 0), (1, 1)), ((0,), (1,))]
+>>> strip(some, [0, 2], 1)
+raises BadWord('word')
+>>> told_words(some, 13)
+raises TooMany('words', 4096)
+"""
+
+SLANTS = """
+>>> one = OneWay(some)
+>>> [one.ways, one.begin(1), one.next(None, (0, 0), 7), one.next((0, 0), (0, 1), None), one.next((1, 0, 0, 0), (1, 1, None, None), None)]
+[1, (0, 1), (1, 0, None, None), (0, 1), (1, 1, 1, 0)]
+>>> [strip(one, [0, 0, 1], 2)[2], strip(one, [0, 0, 1], 5)[5]]
+[((1, None, 0, None), (1, 0, None, None), (0, 1)), ((1, None, None, None), (1, None, None, None), (1, 1, 1, 0))]
+>>> [told_words(one, 3) == told_words(some, 3), one == OneWay(some), one.says((1, None, 1, 0)), one.says((0, 1))]
+[True, True, False, False]
+>>> [slant(0, 2), slant(1, 1), unslant(2, 4), unslant(2, 3), unslant(1, 5), unslant(0, 0)]
+[(2, 5), (2, 4), (1, 1), (2, 0), None, None]
+>>> triangle(some, [0, 0, 1])
+((0, 0, 1), (0, 1), (1,))
+>>> OneWay(last)
+raises Misfit('ways')
+"""
+
+SECTIONS = (
+    ("checks", checks, CHECKS), ("papers", papers, PAPERS), ("words", words, WORDS), ("rows", rows, None),
+    ("tables", tables, TABLES), ("runs", runs, RUNS), ("slants", slants, SLANTS),
+)
 
 
 class Examples(unittest.TestCase):
@@ -35,6 +82,8 @@ class Examples(unittest.TestCase):
         names = {}
         for title, module, text in SECTIONS:
             names.update({name: value for name, value in vars(module).items() if not name.startswith("__")})
+            if text is None:
+                continue
             examples = examples_of(text)
             self.assertTrue(examples)
             for source, expected in examples:

@@ -15,12 +15,17 @@ INTERFACE = {
     "checks": {name: None for name in ("is_integer", "is_within", "is_letter", "is_word")},
     "papers": {"Paper": ("__init__", "__bool__", "__eq__"), "Denial": ("__bool__",), "fixed": None},
     "words": {name: None for name in ("all_words", "next_word", "mirrored", "word_text", "word_read")},
+    "rows": {"Row": ("begin", "next", "says")},
+    "tables": {"Table": ("__init__", "begin", "next", "says", "__eq__", "__str__", "read")},
+    "runs": {name: None for name in ("strip", "worth_at", "seat", "due_tick", "told", "said", "told_words")},
+    "slants": {
+        "OneWay": ("__init__", "begin", "next", "says", "__eq__"), "slant": None, "unslant": None, "triangle": None},
 }
 
 BUILTINS = {
     "len", "range", "enumerate", "zip", "min", "max", "sum", "abs", "sorted", "reversed", "int", "str", "bool", "list",
     "tuple", "dict", "set", "isinstance", "ord", "repr", "any", "all", "divmod", "ValueError", "KeyError",
-    "NotImplementedError",
+    "NotImplementedError", "staticmethod",
 }
 WORDS_LEFT_OUT = {
     "register", "mro", "elements", "open", "input", "law", "version_info", "with_traceback", "add_note", "global",

@@ -80,6 +80,11 @@ class Papers(unittest.TestCase):
             self.assertIs(value == Paper("a", 1), False)
             self.assertIs(Denial("a", 1) == value, False)
 
+    def test_unequal_to_another_class_of_that_name(self):
+        made = type("Paper", (), {})()
+        made.word, made.parts = "a", (1,)
+        self.assertIs(Paper("a", 1) == made, False)
+
     def test_what_was_passed_may_be_changed(self):
         inner, outer = [3], [1]
         outer.append((2, inner))
