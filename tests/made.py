@@ -97,3 +97,34 @@ def sum_of(worth):
     if worth is None:
         return 911
     return worth if isinstance(worth, int) else len(worth)
+
+
+def strip_of(row, word, ticks):
+    """The strip of any row, by what its methods answer, cell by cell."""
+    lines = [[row.begin(letter) for letter in word]]
+    for tick in range(ticks):
+        line = lines[tick]
+        lines.append([
+            row.next(line[cell - 1] if cell > 0 else None, line[cell], line[cell + 1] if cell + 1 < len(line) else None)
+            for cell in range(len(line))])
+    return lines
+
+
+def told_of(row, word):
+    """Whether any row tells a word yes, by its strip."""
+    if row.ways == 2:
+        return bool(row.says(strip_of(row, word, len(word) - 1)[-1][0]))
+    return bool(row.says(strip_of(row, word, 2 * len(word) - 1)[-1][-1]))
+
+
+def come_to(row, most=40):
+    """All worths that a row can come to, None if there are more than most."""
+    found = {row.begin(letter) for letter in range(row.letters)}
+    while len(found) <= most:
+        near = [None, *found]
+        rights = near if row.ways == 2 else [None]
+        further = {row.next(left, own, right) for left in near for own in found for right in rights}
+        if further <= found:
+            return found
+        found |= further
+    return None

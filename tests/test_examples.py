@@ -2,7 +2,7 @@
 
 import unittest
 
-from backwardrow import checks, papers, rows, runs, slants, tables, words
+from backwardrow import check_listed, checks, folds, joined, listed, papers, rows, runs, slants, tables, words
 from helpers import examples_of, run_example
 
 CHECKS = """
@@ -71,9 +71,59 @@ SLANTS = """
 raises Misfit('ways')
 """
 
+FOLDS = """
+>>> late = Table(1, 2, 3, {(0, 1): 2, (1, 1): 2, (2, 0): 1, (2, 1): 2}, [2])
+>>> both = TwoWays(late)
+>>> [both.letters, both.ways, both.begin(1), both.says((1, 0)), both.says(((), 2)), both.says((0, None))]
+[2, 2, (1, None), True, False, False]
+>>> strip(both, [0, 1, 1], 2)
+(((0, None), (1, None), (1, None)), ((2, 0), (2, None), ((), None)), ((2, 2), ((), 0), ((), None)))
+>>> [told(both, word) == told(late, word) for word in ([0, 1, 1], [1, 0, 0], [1], [0, 0, 1, 0])]
+[True, True, True, True]
+>>> [fold(1, 2), unfold(3, 4), unfold(1, 4), unfold(2, 3)]
+[(3, 4), (1, 2, 'own'), (0, 2, 'folded'), None]
+>>> TwoWays(both)
+raises Misfit('ways')
+"""
+
+JOINED = """
+>>> some, first = Table(2, 2, 2, [((left, 0, 1), 1) for left in (None, 0, 1)], [1]), Table(2, 2, 2, [], [1])
+>>> both = Both(some, Not(first))
+>>> [told(some, [0, 0, 1]), told(first, [0, 0, 1]), told(both, [0, 0, 1]), told(both, [1, 0]), told(Either(first, Not(some)), [0, 0])]
+[True, False, True, False, True]
+>>> [both.begin(1), both.next(None, (0, 0), (1, 1)), both.says((1, 0)), both.ways, both.letters]
+[(1, 1), (1, 0), True, 2, 2]
+>>> third = Renamed(some, [0, 0, 1])
+>>> [third.letters, told(third, [0, 1, 0]), told(third, [1, 2, 1])]
+[3, False, True]
+>>> Both(some, Table(1, 2, 2, [], [1]))
+raises Misfit('ways')
+>>> Renamed(some, [0, 2])
+raises BadNumber('letters')
+"""
+
+LISTED = """
+>>> told_so = listed(both, 4)
+>>> [told_so.names, told_so.table.worths, told_so.table.yes, told_so.table.next(1, 0, 2), told_so.table.next(0, 0, None)]
+[((0, 0), (1, 1), (1, 0)), 3, (2,), 2, 0]
+>>> [told(told_so.table, word) for word in ([0], [0, 1], [1, 1])]
+[False, True, False]
+>>> listed(both, 2)
+raises TooMany('worths', 2)
+>>> listed(third, 12)
+raises Misfit('letters')
+"""
+
+CHECK_LISTED = """
+>>> flat = Table(2, 2, 3, [((left, 0, right), 2) for left in (None, 0, 1, 2) for right in (1, 2)], [2])
+>>> [shows_listed(both, value) for value in (told_so, Listed(told_so.names, flat), Listed(told_so.names[:2], told_so.table), Listed([(1, 1), (0, 0), (1, 0)], flat))]
+[True, True, False, False]
+"""
+
 SECTIONS = (
     ("checks", checks, CHECKS), ("papers", papers, PAPERS), ("words", words, WORDS), ("rows", rows, None),
-    ("tables", tables, TABLES), ("runs", runs, RUNS), ("slants", slants, SLANTS),
+    ("tables", tables, TABLES), ("runs", runs, RUNS), ("slants", slants, SLANTS), ("folds", folds, FOLDS),
+    ("joined", joined, JOINED), ("listed", listed, LISTED), ("check_listed", check_listed, CHECK_LISTED),
 )
 
 

@@ -7,6 +7,8 @@ import unittest
 
 PACKAGE = pathlib.Path(__file__).resolve().parent.parent / "backwardrow"
 
+ROW_METHODS = ("__init__", "begin", "next", "says", "__eq__")
+
 # For each file of the interface: its functions, and its classes with the methods that stand in them.
 INTERFACE = {
     "errors": {name: () for name in (
@@ -19,7 +21,11 @@ INTERFACE = {
     "tables": {"Table": ("__init__", "begin", "next", "says", "__eq__", "__str__", "read")},
     "runs": {name: None for name in ("strip", "worth_at", "seat", "due_tick", "told", "said", "told_words")},
     "slants": {
-        "OneWay": ("__init__", "begin", "next", "says", "__eq__"), "slant": None, "unslant": None, "triangle": None},
+        "OneWay": ROW_METHODS, "slant": None, "unslant": None, "triangle": None},
+    "folds": {"TwoWays": ROW_METHODS, "fold": None, "unfold": None},
+    "joined": {name: ROW_METHODS for name in ("Not", "Both", "Either", "Renamed")},
+    "listed": {"Listed": ("__init__",), "listed": None},
+    "check_listed": {"shows_listed": None},
 }
 
 BUILTINS = {
