@@ -132,5 +132,5 @@ def next_pair(one, other, left, own, right):
 
 
 def part_of(worth, at):
-    """A part of a pair; a border, and the () that TwoWays puts beside a cell, are the same for both parts."""
-    return worth if worth is None or worth == () else worth[at]
+    """A part of a pair; a border is one for both parts."""
+    return None if worth is None else worth[at]

@@ -21,6 +21,9 @@ class Paper:
 class Denial(Paper):
     """A paper that says no."""
 
+    def __init__(self, word, *parts):
+        Paper.__init__(self, word, *parts)
+
     def __bool__(self):
         return False
 

@@ -27,7 +27,7 @@ class OneWay(Row):
 
     def next(self, left, own, right):
         """What a cell becomes; it begins to work at a border, or behind a cell that works."""
-        hears = is_working(left)
+        hears = left is not None and left[0] == WORKS
         if own[0] == WAITS:
             if left is not None and not hears:
                 return (WAITS, own[1])
@@ -43,11 +43,6 @@ class OneWay(Row):
 
     def __eq__(self, other):
         return isinstance(other, OneWay) and self.row == other.row
-
-
-def is_working(worth):
-    """Whether a worth is that of a cell that works; a border is none, nor the () that TwoWays puts beside a cell."""
-    return worth is not None and len(worth) > 0 and worth[0] == WORKS
 
 
 def slant(cell, tick):

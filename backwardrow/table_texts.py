@@ -1,8 +1,6 @@
 """Texts of tables, and what they tell."""
 
-from backwardrow.errors import BadText
-from backwardrow.lists import key_rank
-from backwardrow.texts import line_items, text_lines, want_end, want_number, want_word
+from backwardrow.texts import line_items, text_lines, want_behind, want_end, want_number, want_word, want_yes
 
 
 def table_lines(table):
@@ -22,7 +20,7 @@ def table_told(text):
     """The ways, letters, worths, rules and yes of the table whose text this is."""
     lines = text_lines(text)
     ways, letters, worths = first_told(lines[0])
-    yes = yes_told(line_items(lines, 1), worths)
+    yes = want_yes(line_items(lines, 1), 1, worths)
     rules = []
     before = None
     for line in range(2, len(lines)):
@@ -44,26 +42,12 @@ def first_told(items):
     return ways, letters, worths
 
 
-def yes_told(items, worths):
-    """The worths that say yes, each above the one before it."""
-    want_word(items, 1, 0, "yes")
-    yes = []
-    least = 0
-    for at in range(1, len(items)):
-        worth = want_number(items, 1, at, least, worths - 1)
-        yes.append(worth)
-        least = worth + 1
-    return yes
-
-
 def key_told(items, line, ways, worths, before):
     """The key of a rule, which comes behind the key before it, if there is one."""
     key = ()
     for at in range(ways + 1):
         key = key + (key_part_told(items, line, at, worths),)
-        if before is not None:
-            if key == before or key_rank(key) < key_rank(before[:at + 1]):
-                raise BadText(line, at)
+        want_behind(key, before, line, at)
     return key
 
 

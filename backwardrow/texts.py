@@ -6,6 +6,7 @@ tells of an item that is wrong and of one that is not there.
 
 from backwardrow.checks import is_within
 from backwardrow.errors import BadText
+from backwardrow.lists import key_rank
 
 DIGITS = "0123456789"
 MOST_DIGITS = 60
@@ -52,3 +53,22 @@ def want_end(items, line, at):
     """Raise BadText if an item stands where the line should have ended."""
     if at < len(items):
         raise BadText(line, at)
+
+
+def want_yes(items, line, many):
+    """The numbers below many that stand behind yes, each above the one before it."""
+    want_word(items, line, 0, "yes")
+    yes = []
+    least = 0
+    for at in range(1, len(items)):
+        number = want_number(items, line, at, least, many - 1)
+        yes.append(number)
+        least = number + 1
+    return yes
+
+
+def want_behind(key, before, line, at):
+    """Raise BadText if a key, as far as it is read, cannot come behind the whole key before it, if there is one."""
+    if before is not None:
+        if key == before or key_rank(key) < key_rank(before[:len(key)]):
+            raise BadText(line, at)

@@ -18,15 +18,20 @@ def all_words(letters, many):
 
 def few_words(letters, many):
     """All words of any right length, ascending: TooMany if there are too many of them."""
+    demand_few_words(letters, many)
+    words = [()]
+    for _ in range(many):
+        words = [(*word, letter) for word in words for letter in range(letters)]
+    return tuple(words)
+
+
+def demand_few_words(letters, many):
+    """Raise TooMany if there are too many words of so many letters."""
     count = 1
     for _ in range(many):
         count *= letters
     if count > MOST_WORDS:
         raise TooMany("words", MOST_WORDS)
-    words = [()]
-    for _ in range(many):
-        words = [(*word, letter) for word in words for letter in range(letters)]
-    return tuple(words)
 
 
 def next_word(letters, word):

@@ -128,3 +128,78 @@ def come_to(row, most=40):
             return found
         found |= further
     return None
+
+
+def eater_parts_by_chance(seed):
+    """The five parameters of a right eater, pushes and pops being likely."""
+    chance = random.Random(seed)
+    letters, states, stacks = chance.randint(1, 3), chance.randint(1, 4), seed % 3
+    rules = []
+    for state, letter in itertools.product(range(states), range(letters)):
+        for tops in itertools.product((None, 0, 1, 2, 3), repeat=stacks):
+            if chance.random() < 0.93:
+                moves = [move_by_chance(chance, top) for top in tops]
+                rules.append(((state, letter, tops), (chance.randrange(states), moves)))
+    chance.shuffle(rules)
+    return letters, states, stacks, rules, [state for state in range(states) if chance.random() < 0.5]
+
+
+def move_by_chance(chance, top):
+    fate = chance.random()
+    if fate < 0.5 or (fate < 0.85 and top is None):
+        return ("push", chance.randrange(4))
+    return "pop" if fate < 0.85 else None
+
+
+def eaten_by_hand(parts, word):
+    """What an eater of these parameters has behind a word: its state and its stacks, or None."""
+    _, _, stacks, rules, _ = parts
+    state, piles = 0, [[] for _ in range(stacks)]
+    for letter in word:
+        tops = tuple(pile[-1] if pile else None for pile in piles)
+        found = [done for key, done in rules if (key[0], key[1], tuple(key[2])) == (state, letter, tops)]
+        if not found:
+            return None
+        state = found[0][0]
+        for pile, move in zip(piles, found[0][1]):
+            if move == "pop":
+                pile.pop()
+            elif move is not None:
+                pile.append(move[1])
+    return (state, tuple(tuple(pile[::-1]) for pile in piles))
+
+
+def taken_by_hand(parts, word):
+    """Whether an eater of these parameters takes a word."""
+    held = eaten_by_hand(parts, word)
+    return held is not None and held[0] in parts[4]
+
+
+def evens_parts():
+    """An eater of some letters 0 and then as many letters 1: the lowest sign is a 0, all others are 1."""
+    rules = [((0, 0, (None,)), (0, (("push", 0),))), ((0, 0, (0,)), (0, (("push", 1),))), ((0, 0, (1,)), (0, (("push", 1),)))]
+    rules += [((0, 1, (0,)), (2, ("pop",))), ((0, 1, (1,)), (1, ("pop",)))]
+    rules += [((1, 1, (0,)), (2, ("pop",))), ((1, 1, (1,)), (1, ("pop",)))]
+    return 2, 3, 1, rules, [2]
+
+
+def turning_parts():
+    """An eater with two stacks: letter 0 pushes signs by turns, 1 brings one over, 2 takes one off again."""
+    rules = []
+    for state in range(4):
+        for first, second in itertools.product((None, 0, 1, 2, 3), repeat=2):
+            rules.append(((state, 0, (first, second)), ((state + 1) % 4, (("push", state), None))))
+            if first is not None:
+                rules.append(((state, 1, (first, second)), (first, ("pop", ("push", first)))))
+            if second is not None:
+                rules.append(((state, 2, (first, second)), (second, (None, "pop"))))
+    return 3, 4, 2, rules, [1, 2]
+
+
+def only_small(worth, depth=0):
+    """Whether a worth is of integers within a million, None and tuples of such; a whole one is not None."""
+    if isinstance(worth, tuple):
+        return all(only_small(part, depth + 1) for part in worth)
+    if worth is None:
+        return depth > 0
+    return isinstance(worth, int) and not isinstance(worth, bool) and -10 ** 6 <= worth <= 10 ** 6

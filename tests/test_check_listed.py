@@ -154,6 +154,15 @@ class Wrong(unittest.TestCase):
         self.assertIs(shows_listed(row, Listed((0, 1, 2), table)), True)
         self.assertIs(shows_listed(row, Listed((0, 2, 1), table)), False)
 
+    def test_letters_that_do_not_stand_in_front(self):
+        wrong = 0
+        for row in rows():
+            right = names_in_orders(row)
+            for names in itertools.islice(itertools.permutations(right[0]), 30):
+                self.assertIs(shows_listed(row, Listed(names, table_for(row, names))), names in right)
+                wrong += names not in right
+        self.assertGreater(wrong, 20)
+
     def test_worths_that_no_row_comes_to(self):
         row = Table(2, 2, 3, [], [1])
         self.assertIs(shows_listed(row, Listed((0, 1), Table(2, 2, 2, [], [1]))), True)

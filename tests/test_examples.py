@@ -2,7 +2,8 @@
 
 import unittest
 
-from backwardrow import check_listed, checks, folds, joined, listed, papers, rows, runs, slants, tables, words
+from backwardrow import (
+    check_listed, checks, eaters, fed, folds, joined, listed, mirrors, papers, rows, runs, slants, tables, unlike, words)
 from helpers import examples_of, run_example
 
 CHECKS = """
@@ -120,10 +121,58 @@ CHECK_LISTED = """
 [True, True, False, False]
 """
 
+UNLIKE = """
+>>> [unlike(some, first, 3) == Parted([0, 1]), unlike(some, first, 1) == Same(1), unlike(both, told_so.table, 6) == Same(6), bool(Same(6))]
+[True, True, True, False]
+>>> [shows_unlike(some, first, 3, value) for value in (Parted((0, 0, 1)), Parted([1]), Same(3), Parted([0, 0, 0, 1]))]
+[True, False, False, False]
+>>> unlike(some, third, 3)
+raises Misfit('letters')
+>>> unlike(third, third, 8)
+raises TooMany('words', 4096)
+"""
+
+EATERS = """
+>>> rules = [((0, 0, [None]), (0, [("push", 0)])), ((0, 0, [0]), (0, [("push", 1)])), ((0, 0, [1]), (0, [("push", 1)]))]
+>>> rules = rules + [((0, 1, [0]), (2, ["pop"])), ((0, 1, [1]), (1, ["pop"])), ((1, 1, [0]), (2, ["pop"])), ((1, 1, [1]), (1, ["pop"]))]
+>>> evens = Eater(2, 3, 1, rules, [2])
+>>> [eaten(evens, [0, 0, 1]), eaten(evens, [0, 0, 1, 1]), eaten(evens, [1]), takes(evens, [0, 0, 1, 1]), beginnings(evens, (0, 1, 0))]
+[(1, ((0,),)), (2, ((),)), None, True, (False, True, False)]
+>>> [str(evens).split("\\n")[:4], Eater.read(str(evens)) == evens, evens.rules[0], evens.yes]
+[['eater 2 3 1', 'yes 2', 'rule 0 0 - 0 0', 'rule 0 0 0 0 1'], True, ((0, 0, (None,)), (0, (('push', 0),))), (2,)]
+>>> thirds = Eater(2, 3, 0, {(state, letter, ()): ([1, 2, 0][state], ()) for state in (0, 1, 2) for letter in (0, 1)}, [0])
+>>> both = side_by_side(evens, thirds)
+>>> [both.states, both.stacks, both.yes, takes(both, [0, 1]), takes(both, [0, 0, 0, 1, 1, 1])]
+[9, 1, (6,), False, True]
+>>> Eater(2, 1, 1, [((0, 0, [None]), (0, ["pop"]))], [])
+raises BadEater('rules')
+>>> Eater.read("eater 2 1 0\\nyes\\nrule 0 1 0\\nrule 0 0 0")
+raises BadText(3, 2)
+"""
+
+FED = """
+>>> row = Fed(evens)
+>>> [row.letters, row.ways, told(row, [0, 0, 1, 1]), told(row, [0, 0, 1]), told_words(row, 4)]
+[2, 2, True, False, ((0, 0, 1, 1),)]
+>>> [said(row, [0, 1, 0, 1], tick) for tick in (0, 1, 2, 3)]
+[False, True, False, False]
+"""
+
+MIRRORS = """
+>>> mirror = Mirror(2)
+>>> [mirror.letters, mirror.ways, told(mirror, [0, 1, 0]), told(mirror, [0, 1, 1]), told(mirror, [1]), mirror == Mirror(letters=2)]
+[2, 2, True, False, True, True]
+>>> [said(mirror, [0, 1, 0, 0, 1, 0], tick) for tick in range(6)]
+[True, False, True, False, False, True]
+>>> Mirror(7)
+raises BadNumber('letters')
+"""
+
 SECTIONS = (
     ("checks", checks, CHECKS), ("papers", papers, PAPERS), ("words", words, WORDS), ("rows", rows, None),
     ("tables", tables, TABLES), ("runs", runs, RUNS), ("slants", slants, SLANTS), ("folds", folds, FOLDS),
     ("joined", joined, JOINED), ("listed", listed, LISTED), ("check_listed", check_listed, CHECK_LISTED),
+    ("unlike", unlike, UNLIKE), ("eaters", eaters, EATERS), ("fed", fed, FED), ("mirrors", mirrors, MIRRORS),
 )
 
 

@@ -1,9 +1,11 @@
 """backwardrow.folds: TwoWays cell by cell and strip by strip, what it tells of words, fold and unfold."""
 
 import itertools
+import random
 import unittest
 
 from backwardrow.folds import TwoWays, fold, unfold
+from backwardrow.joined import Both, Either, Not, Renamed
 from backwardrow.runs import due_tick, said, seat, strip, told, told_words
 from backwardrow.slants import OneWay
 from backwardrow.tables import Table
@@ -121,15 +123,32 @@ class Cells(unittest.TestCase):
                 wanted = row.says(row.next(folded, own, None))
                 self.assertIs(TwoWays(row).says((own, folded)), wanted)
 
+    def test_says_true_or_false(self):
+        row = Shows(2, 1)
+        row.says = lambda worth: worth
+        self.assertIs(TwoWays(row).says((("at", 1), None)), True)
+        row.says = lambda worth: ()
+        self.assertIs(TwoWays(row).says((("at", 1), None)), False)
+
     def test_nothing_is_raised_for_worths_that_were_told(self):
-        for table in one_ways(12, worths=(2,)):
-            for row in (TwoWays(table), TwoWays(OneWay(TwoWays(table))), TwoWays(OneWay(table_by_chance(4, 2)))):
-                found = [worth for line in strip_of(row, [0] * 3, 5) for worth in line]
-                found = [worth for at, worth in enumerate(found) if worth not in found[:at]][:9]
-                for left, own, right in itertools.product([None, *found], found, [None, *found]):
+        chance = random.Random(5)
+        two = table_by_chance(4, 2)
+        for table in one_ways(12, worths=(2, 3)):
+            late = Renamed(OneWay(two), [0] * table.letters)
+            for inner in (table, OneWay(TwoWays(table)), OneWay(two), Both(table, Not(late)), Either(late, OneWay(TwoWays(late)))):
+                row = TwoWays(inner)
+                found = [worth for line in strip_of(row, [0, row.letters - 1, 0], 6) for worth in line]
+                for _ in range(300):
+                    left, own, right = (chance.choice(found) for _ in range(3))
+                    left = None if chance.random() < 0.2 else left
+                    right = None if chance.random() < 0.2 else right
                     worth = row.next(left, own, right)
                     self.assertIn(row.says(worth), (True, False))
                     self.assertEqual(row.next(left, own, right), worth)
+                    if worth not in found:
+                        found.append(worth)
+                # So the inner row is never asked for a cell beside (): who has lost its folded one has no own.
+                self.assertFalse([own for own, folded in found if folded == () and own != ()])
 
 
 class Strips(unittest.TestCase):

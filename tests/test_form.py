@@ -15,7 +15,7 @@ INTERFACE = {
         "RowError", "BadNumber", "BadWord", "BadRow", "BadTable", "BadEater", "BadSignals", "BadSaying", "BadPaper",
         "Misfit", "NoName", "Twice", "TooMany", "Nothing", "BadText", "BadLine")},
     "checks": {name: None for name in ("is_integer", "is_within", "is_letter", "is_word")},
-    "papers": {"Paper": ("__init__", "__bool__", "__eq__"), "Denial": ("__bool__",), "fixed": None},
+    "papers": {"Paper": ("__init__", "__bool__", "__eq__"), "Denial": ("__init__", "__bool__"), "fixed": None},
     "words": {name: None for name in ("all_words", "next_word", "mirrored", "word_text", "word_read")},
     "rows": {"Row": ("begin", "next", "says")},
     "tables": {"Table": ("__init__", "begin", "next", "says", "__eq__", "__str__", "read")},
@@ -26,6 +26,11 @@ INTERFACE = {
     "joined": {name: ROW_METHODS for name in ("Not", "Both", "Either", "Renamed")},
     "listed": {"Listed": ("__init__",), "listed": None},
     "check_listed": {"shows_listed": None},
+    "unlike": {"Parted": ("__init__",), "Same": ("__init__",), "unlike": None, "shows_unlike": None},
+    "eaters": {
+        "Eater": ("__init__", "__eq__", "__str__", "read"), "eaten": None, "takes": None, "beginnings": None, "side_by_side": None},
+    "fed": {"Fed": ROW_METHODS},
+    "mirrors": {"Mirror": ROW_METHODS},
 }
 
 BUILTINS = {

@@ -3,19 +3,23 @@
 import itertools
 import unittest
 
+from backwardrow.eaters import Eater
+from backwardrow.fed import Fed
 from backwardrow.folds import TwoWays
 from backwardrow.joined import Both, Either, Not, Renamed
+from backwardrow.mirrors import Mirror
 from backwardrow.rows import Row
 from backwardrow.slants import OneWay
 from backwardrow.tables import Table
 
-ROWS = (Table, OneWay, TwoWays, Not, Both, Either, Renamed)
+ROWS = (Table, OneWay, TwoWays, Not, Both, Either, Renamed, Fed, Mirror)
 
 
 def rows_over(ways, letters):
-    """Rows of every class but tables, and the ways that they have, made of a table."""
+    """Rows of every class but tables, and the ways that they have, made of a table where they are made of rows."""
     row = Table(ways, letters, 6, [], [])
     found = [(OneWay(row), 1)] if ways == 2 else [(TwoWays(row), 2)]
+    found += [(Mirror(letters), 2), (Fed(Eater(letters, 1, 1, {(0, 0, (None,)): (0, [("push", 1)])}, [0])), 2)]
     return found + [(made, ways) for made in (Not(row), Both(row, row), Either(row, row), Renamed(row, [0] * letters))]
 
 
