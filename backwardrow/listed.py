@@ -12,7 +12,7 @@ class Listed(Paper):
     """All worths that a row can come to, and the table that goes on and says as the row does."""
 
     def __init__(self, names, table):
-        Paper.__init__(self, "listed", names, table)
+        super().__init__("listed", names, table)
         self.names = self.parts[0]
         self.table = self.parts[1]
 

@@ -22,7 +22,7 @@ class Denial(Paper):
     """A paper that says no."""
 
     def __init__(self, word, *parts):
-        Paper.__init__(self, word, *parts)
+        super().__init__(word, *parts)
 
     def __bool__(self):
         return False

@@ -18,7 +18,11 @@ def rule_line(key, worth):
 
 def table_told(text):
     """The ways, letters, worths, rules and yes of the table whose text this is."""
-    lines = text_lines(text)
+    return told_by_lines(text_lines(text))
+
+
+def told_by_lines(lines):
+    """The ways, letters, worths, rules and yes of the table whose text has these lines, each a list of items."""
     ways, letters, worths = first_told(lines[0])
     yes = want_yes(line_items(lines, 1), 1, worths)
     rules = []

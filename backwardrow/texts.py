@@ -55,16 +55,18 @@ def want_end(items, line, at):
         raise BadText(line, at)
 
 
+def want_lot(items, line, first, many):
+    """The numbers below many that stand from an item on, each above the one before it."""
+    lot = []
+    for at in range(first, len(items)):
+        lot.append(want_number(items, line, at, lot[-1] + 1 if len(lot) > 0 else 0, many - 1))
+    return lot
+
+
 def want_yes(items, line, many):
     """The numbers below many that stand behind yes, each above the one before it."""
     want_word(items, line, 0, "yes")
-    yes = []
-    least = 0
-    for at in range(1, len(items)):
-        number = want_number(items, line, at, least, many - 1)
-        yes.append(number)
-        least = number + 1
-    return yes
+    return want_lot(items, line, 1, many)
 
 
 def want_behind(key, before, line, at):

@@ -12,7 +12,7 @@ class Parted(Paper):
     """Two rows part at this word."""
 
     def __init__(self, letters):
-        Paper.__init__(self, "parted", letters)
+        super().__init__("parted", letters)
         self.letters = self.parts[0]
 
 
@@ -20,7 +20,7 @@ class Same(Denial):
     """Two rows part at no word of so many letters at most."""
 
     def __init__(self, most):
-        Denial.__init__(self, "same", most)
+        super().__init__("same", most)
         self.most = self.parts[0]
 
 

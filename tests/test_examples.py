@@ -3,7 +3,8 @@
 import unittest
 
 from backwardrow import (
-    check_listed, checks, eaters, fed, folds, joined, listed, mirrors, papers, rows, runs, slants, tables, unlike, words)
+    check_listed, checks, desk, eaters, errors, fed, flashes, folds, joined, listed, mirrors, papers, pictures, rows, runs, saying_texts, sayings, scripts, signals,
+    slants, sped, spoken, tables, unlike, words)
 from helpers import examples_of, run_example
 
 CHECKS = """
@@ -168,11 +169,129 @@ MIRRORS = """
 raises BadNumber('letters')
 """
 
+SAYINGS = """
+>>> saying = ("both", ("many", 0, 1), ("not", ["begins", 1]))
+>>> [is_saying(value) for value in (saying, ("many", 0, 0), ("then", [0, 0]), ["then", (0, 1, 0)], ("length", 3, 3), ("mirror",), "mirror", ("has", []))]
+[True, False, False, True, False, True, False, False]
+>>> [letters_in(saying), letters_in(("mirror",)), means(saying, [0, 1, 2]), means(saying, (1, 0)), means(("has", [0, 1]), [1, 0, 0, 1]), means(("length", 3, 2), [0, 0])]
+[2, 1, True, False, True, True]
+>>> [means(("then", [0, 1, 0]), word) for word in ([0, 1, 0], [0, 0, 1, 1, 0, 0], [0, 1], [0, 1, 1, 0])]
+[True, True, False, False]
+>>> [words_so(("nested", 0, 1), 2, 4), words_so(("mirror",), 2, 2), words_so(("ends", 3), 2, 1)]
+[((0, 0, 1, 1), (0, 1, 0, 1)), ((0, 0), (1, 1)), ()]
+>>> means("mirror", [0])
+raises BadSaying('saying')
+>>> words_so(("mirror",), 3, 8)
+raises TooMany('words', 4096)
+"""
+
+SAYING_TEXTS = """
+>>> [saying_text(saying), saying_text(("has", [1, 0])), saying_read("then 3 0 1 2"), saying_read("not either mirror length 2 0")]
+['both many 0 1 not begins 1', 'has 2 1 0', ('then', (0, 1, 2)), ('not', ('either', ('mirror',), ('length', 2, 0)))]
+>>> saying_read("both mirror")
+raises BadText(0, 2)
+>>> saying_read("many 1 1")
+raises BadText(0, 2)
+>>> saying_read("mirror 0")
+raises BadText(0, 1)
+"""
+
+SPOKEN = """
+>>> row = row_of(saying, 2)
+>>> [row.letters, row.ways, told(row, [0, 0, 1, 1]), told(row, [1, 0]), [said(row, [0, 1, 1, 0], tick) for tick in range(4)]]
+[2, 2, True, False, [False, True, False, True]]
+>>> waves = row_of(["then", [0, 1, 2, 0]], 3)
+>>> [told(waves, [0, 0, 1, 1, 2, 2, 0, 0]), told(waves, [0, 0, 1, 1, 2, 0, 0]), told(OneWay(waves), [0, 1, 2, 0])]
+[True, False, True]
+>>> [takes(eater_of(("nested", 1, 0), 3), word) for word in ([1, 2, 0], [1, 0, 0], [2])]
+[True, False, True]
+>>> row_of(("ends", 2), 2)
+raises Misfit('letters')
+>>> eater_of(("not", ("ends", 1)), 2)
+raises Misfit('saying')
+"""
+
+SPED = """
+>>> near = Table(2, 2, 4, {(None, 0, 0): 2, (2, 0, None): 3, (0, 0, None): 0, (2, 0, 0): 2, (2, 0, 3): 3, (2, 2, 3): 3, (None, 2, 3): 3}, [3])
+>>> [worth_at(near, [0, 0, 0], 0, tick) for tick in range(7)]
+[0, 2, 2, 2, 2, 3, 3]
+>>> quick = Sped(near, 2)
+>>> [quick.inner(worth_at(quick, [0, 0, 0], 0, tick)) for tick in range(5)]
+[0, 2, 2, 2, 3]
+>>> [said(quick, [0, 0, 0], tick) for tick in range(5)] + [said(Sped(near, 3), [0, 0, 0], 3)]
+[False, False, False, False, True, True]
+>>> [inner_tick(3, 2, 2), inner_tick(3, 2, 4), cut_tick(3, 2, 5), cut_tick(3, 3, 5), cut_tick(3, 3, 2)]
+[2, 6, 4, 3, 2]
+>>> [quick.by, quick.ways, quick == Sped(near, 2), quick == Sped(near, 3)]
+[2, 2, True, False]
+>>> Sped(last, 2)
+raises Misfit('ways')
+"""
+
+SIGNALS = """
+>>> bounce = Signals([(1, 1), (-1, 2), (0, 1)], [([0, 2], [1, 2])], [[], [0], []], [[], [0], [2]], 0)
+>>> [bounce.letters, bounce.ways, bounce.begin(1), bounce.meets, bounce.says(((0, 0), (2, 0))), bounce.says(())]
+[3, 2, ((0, 0),), (((0, 2), (1, 2)),), True, False]
+>>> strip(bounce, [1, 2, 0], 4)
+((((0, 0),), ((2, 0),), ()), ((), ((1, 0), (2, 0)), ()), ((), ((1, 1), (2, 0)), ()), (((1, 0),), ((2, 0),), ()), (((1, 1),), ((2, 0),), ()))
+>>> [bounce.next(None, ((1, 1),), ((2, 0),)), bounce.next((), ((0, 0),), None), bounce.next(((0, 0),), ((0, 0), (1, 0)), ((1, 1),))]
+[((0, 0),), (), ((0, 0), (1, 0), (1, 1))]
+>>> str(bounce).split("\\n")
+['kind 1 1', 'kind -1 2', 'kind 0 1', 'meet 0 2 = 1 2', 'border', 'border 0', 'border', 'begin', 'begin 0', 'begin 2', 'flash 0']
+>>> Signals([(1, 1), (0, 2)], [], [[], []], [[]], 0)
+raises BadSignals('kinds')
+>>> Signals.read("kind 1 1\\nmeet = 0")
+raises BadText(1, 1)
+"""
+
+FLASHES = """
+>>> [flashes(squares(), [1, 2] + [0] * 6, 30), flashes(doubles(), [1] + [0] * 9, 36), flashes(echoes(), [1, 0, 0, 2, 0], 20)]
+[(1, 4, 9, 16, 25), (4, 8, 16, 32), (1, 8, 15)]
+>>> [line_at((1, 3), 2, 7), line_at((-1, 1), 2, 3), line_at((0, 1), 4, 100)]
+[4, None, 4]
+>>> [meeting((1, 1), 0, (0, 1), 5), meeting((1, 1), 0, (-1, 1), 5), meeting((1, 1), 0, (1, 3), 2), meeting((1, 2), 0, (-1, 1), 6)]
+[5, None, 2, 4]
+"""
+
+PICTURES = """
+>>> [picture(some, [0, 0, 1], 2), listing(last, [0, 1, 0], 3), slanted(some, (0, 0, 1))]
+[('..#', '.##', '###'), ('010', '211', '212', '212'), ('...', '0..', '.0.', '.01', '..1', '..1')]
+>>> slanted(last, [0])
+raises Misfit('ways')
+"""
+
+DESK = """
+>>> desk = Desk()
+>>> [desk.tell(line) for line in ("table some ways 2 letters 2 worths 2 / yes 1 / - 0 1 > 1 / 0 0 1 > 1 / 1 0 1 > 1", "told some 0 0 1", "due some 3", "words some 2")]
+['ways 2 letters 2', 'yes', '0 2', '0 1 / 1 0 / 1 1']
+>>> [desk.tell(line) for line in ("oneway left some", "due left 3", "unlike some left 4", "not none some", "unlike some none 3", "picture some 2 0 0 1")]
+['ways 1 letters 2', '2 5', '-', 'ways 2 letters 2', '0', '..# / .## / ###']
+>>> [desk.tell("undo"), desk.tell("names"), desk.tell("again"), told(desk.row("none"), [0, 0]), len(desk.log)]
+['not none some', 'left some', 'ways 2 letters 2', True, 3]
+>>> desk.tell("told some 0 x")
+raises BadText(0, 3)
+>>> desk.tell("both some some left")
+raises Twice('some')
+>>> desk.tell("both most some left")
+raises Misfit('ways')
+>>> desk.tell("table more ways 2 letters 2 worths 2 / yes / 0 0 > 1")
+raises BadText(0, 13)
+"""
+
+SCRIPTS = """
+>>> played(["saying any 2 has 1 1", "told any 0 1", "words any 1", "sped soon any 2", "drop any", "log"])
+('ways 2 letters 2', 'yes', '1', 'ways 2 letters 2', 'any', 'saying any 2 has 1 1 / sped soon any 2 / drop any')
+>>> played(["names", "drop some"])
+raises BadLine
+"""
+
 SECTIONS = (
-    ("checks", checks, CHECKS), ("papers", papers, PAPERS), ("words", words, WORDS), ("rows", rows, None),
+    ("errors", errors, None), ("checks", checks, CHECKS), ("papers", papers, PAPERS), ("words", words, WORDS), ("rows", rows, None),
     ("tables", tables, TABLES), ("runs", runs, RUNS), ("slants", slants, SLANTS), ("folds", folds, FOLDS),
     ("joined", joined, JOINED), ("listed", listed, LISTED), ("check_listed", check_listed, CHECK_LISTED),
     ("unlike", unlike, UNLIKE), ("eaters", eaters, EATERS), ("fed", fed, FED), ("mirrors", mirrors, MIRRORS),
+    ("sayings", sayings, SAYINGS), ("saying_texts", saying_texts, SAYING_TEXTS), ("spoken", spoken, SPOKEN), ("sped", sped, SPED),
+    ("signals", signals, SIGNALS), ("flashes", flashes, FLASHES), ("pictures", pictures, PICTURES), ("desk", desk, DESK), ("scripts", scripts, SCRIPTS),
 )
 
 
