@@ -78,7 +78,8 @@ def tick_of_meeting(left, place, right, spot):
         tick += 1
         near = spot_at(left, place, tick)
         far = spot_at(right, spot, tick)
-    return tick if near == far and near >= 0 else None
+    # If the left one is over the end now, the other one is not yet.
+    return tick if near == far else None
 
 
 def spot_at(kind, cell, tick):

@@ -1,8 +1,8 @@
 """Pictures: strips as strings, with a sign for each cell."""
 
-from backwardrow.demands import demand_number, demand_word
+from backwardrow.demands import demand_word
 from backwardrow.errors import BadTable, Misfit
-from backwardrow.runs import MOST_TICKS, strip
+from backwardrow.runs import strip
 from backwardrow.slants import unslant
 from backwardrow.tables import Table
 
@@ -22,8 +22,6 @@ def picture(row, word, ticks):
 def listing(table, word, ticks):
     """The strip of a word by a table, with the signs of the worths."""
     demand_table(table, "table")
-    demand_word(word, table.letters, "word")
-    demand_number(ticks, 0, MOST_TICKS, "ticks")
     return tuple(["".join([SIGNS[worth] for worth in worths]) for worths in strip(table, word, ticks)])
 
 

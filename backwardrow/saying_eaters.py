@@ -101,7 +101,7 @@ def turn_rules(turns, at, stacks):
     """The rules for the letter number at of the turns: it takes from one stack and, if it is not the last, puts on."""
     source = at % 2
     target = (at + 1) % 2
-    ahead = 1 if at == 2 else 2 * at - 3
+    ahead = 2 * at - 3
     going = 2 * at - 2
     last = at == len(turns)
     # The state and what lies on the stack that signs are put on; with the last letter none is put on.

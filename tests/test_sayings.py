@@ -238,7 +238,7 @@ class WordsSo(unittest.TestCase):
         chance = random.Random(9)
         for _ in range(60):
             saying = saying_by_chance(chance, chance.randint(1, 6), 3)
-            for letters, many in ((1, 12), (2, 6), (3, 4), (6, 2)):
+            for letters, many in ((1, 12), (2, 6), (3, 4), (6, 2), (6, 1)):
                 wanted = tuple(word for word in itertools.product(range(letters), repeat=many) if so_by_hand(saying, word))
                 self.assertEqual(words_so(saying, letters, many), wanted)
 

@@ -60,6 +60,8 @@ class Stands(unittest.TestCase):
             worth = wanted[tick_by_hand(many, by, tick)]
             self.assertEqual(row.inner(line[0]), worth, (by, word, tick))
             self.assertIs(row.says(line[0]), bool(inner.says(worth)))
+            for other in line:
+                self.assertIn(row.says(other), (True, False))
         self.assertEqual(row.inner(worth=worth_at(row, word, 0, ticks)), wanted[-1])
         self.assertIs(said(row, word, ticks), bool(inner.says(wanted[-1])))
         self.assertIs(told(row, word), told(inner, word))
